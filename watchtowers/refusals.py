@@ -1,0 +1,6 @@
+"""The numbers by which a call is refused."""
+
+NO_TOWER = -2
+SO_ALREADY = -17
+WRONG_NUMBER = -22
+THERE_IS_NONE = -33
