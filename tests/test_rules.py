@@ -140,7 +140,8 @@ class Order(unittest.TestCase):
     def test_any_other_list_is_refused(self):
         wrong = [(), (0,), (0, 0), (0, 2), (1, 1), (0, 1, 2), (0, 1, 0), (GREATEST, 0), (0, 1) * 4, (7,) * 8]
         for towers in wrong:
-            found = ask(("start", 2), ("order", *towers), ("like", 0, 1), ("like", 1, 0), ("flag", 1, 1), ("pass_on", 1))
+            acts = [("like", 0, 1), ("like", 1, 0), ("flag", 1, 1), ("pass_on", 1)]
+            found = ask(("start", 2), ("order", *towers), *acts)
             self.assertEqual(found[1], [-22])
             self.assertEqual(found[-1], [3])
 

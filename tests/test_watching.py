@@ -1,4 +1,4 @@
-"""Point 5: kinds, even."""
+"""Point 5: kinds, even, odd, layers."""
 
 import unittest
 
@@ -11,6 +11,14 @@ def kinds(calls):
 
 def even(calls):
     return last(*calls, ("even",))
+
+
+def odd(calls):
+    return last(*calls, ("odd",))
+
+
+def layers(calls):
+    return last(*calls, ("layers",))
 
 
 class Kinds(unittest.TestCase):
@@ -107,6 +115,106 @@ class Even(unittest.TestCase):
         self.assertEqual(even(calls + [("hold", 1), ("free", 1)]), [2, 0, 1])
 
 
+class Odd(unittest.TestCase):
+    def test_one_tower(self):
+        for rule, want in enumerate([[-33], [1, 0], [-33], [-33]]):
+            self.assertEqual(odd(set_up([rule])), want)
+
+    def test_at_first_there_is_none(self):
+        for n in (1, 2, 3, 4):
+            self.assertEqual(odd([("start", n)]), [-33])
+
+    def test_first_of_the_shortest(self):
+        calls = [("start", 4), ("against", 2, 2), ("against", 3, 3)]
+        self.assertEqual(odd(calls), [1, 2])
+        self.assertEqual(odd(calls + [("always", 2, 0)]), [1, 3])
+
+    def test_shorter_ahead_of_the_lesser_tower(self):
+        calls = [("start", 3), ("like", 0, 1), ("against", 1, 0), ("against", 2, 2)]
+        self.assertEqual(odd(calls), [1, 2])
+        self.assertEqual(odd(calls + [("like", 2, 2)]), [2, 0, 1])
+
+    def test_one_or_three_lowerings_are_odd_two_are_not(self):
+        calls = [("start", 2), ("against", 0, 1)]
+        self.assertEqual(odd(calls + [("like", 1, 0)]), [2, 0, 1])
+        self.assertEqual(odd(calls + [("against", 1, 0)]), [-33])
+        calls = [("start", 3), ("against", 1, 0), ("against", 2, 1)]
+        self.assertEqual(odd(calls + [("against", 0, 2)]), [3, 0, 1, 2])
+        self.assertEqual(odd(calls + [("like", 0, 2)]), [-33])
+
+    def test_lifted_and_lowered_can_be_taken_either_way(self):
+        self.assertEqual(odd(set_up([6, 0])), [1, 0])
+        self.assertEqual(even(set_up([6, 0])), [1, 0])
+        # Both ways by tower 1 alone, so the ring of two can be odd, and even too.
+        calls = [("start", 3), ("rule", 0, 60), ("like", 1, 0), ("always", 2, 0)]
+        self.assertEqual(odd(calls), [2, 0, 1])
+        self.assertEqual(even(calls), [2, 0, 1])
+
+    def test_ring_goes_from_the_watched_to_who_watches_it(self):
+        self.assertEqual(odd([("start", 3), ("against", 2, 0), ("like", 1, 2), ("like", 0, 1)]), [3, 0, 2, 1])
+        self.assertEqual(odd([("start", 3), ("against", 1, 0), ("like", 2, 1), ("like", 0, 2)]), [3, 0, 1, 2])
+
+    def test_ring_of_four(self):
+        calls = [("start", 4), ("against", 3, 0), ("like", 1, 3), ("against", 2, 1), ("against", 0, 2)]
+        self.assertEqual(odd(calls), [4, 0, 3, 1, 2])
+        self.assertEqual(odd(calls + [("like", 0, 2)]), [-33])
+
+    def test_ring_without_tower_0(self):
+        calls = [("start", 4), ("always", 0, 1), ("like", 3, 1), ("against", 2, 3), ("like", 1, 2)]
+        self.assertEqual(odd(calls), [3, 1, 3, 2])
+
+    def test_rings_of_two_in_order(self):
+        calls = [("start", 4), ("always", 0, 1), ("either", 1, 2, 3), ("against", 2, 1), ("against", 3, 1)]
+        self.assertEqual(odd(calls), [2, 1, 2])
+        self.assertEqual(odd(calls + [("like", 2, 1)]), [2, 1, 3])
+
+    def test_held_breaks_a_ring(self):
+        calls = [("start", 2), ("against", 0, 1), ("like", 1, 0)]
+        self.assertEqual(odd(calls + [("hold", 0)]), [-33])
+        self.assertEqual(odd(calls + [("hold", 1)]), [-33])
+        self.assertEqual(odd(calls + [("hold", 1), ("free", 1)]), [2, 0, 1])
+
+
+class Layers(unittest.TestCase):
+    def test_one_tower(self):
+        for rule, want in enumerate([[1, 0], [-33], [-33], [1, 0]]):
+            self.assertEqual(layers(set_up([rule])), want)
+
+    def test_at_first_each_watches_itself(self):
+        for n in (1, 2, 3, 4):
+            self.assertEqual(layers([("start", n)]), [-33])
+
+    def test_none_watches(self):
+        calls = [("start", 3), ("always", 0, 1), ("always", 1, 0), ("always", 2, 1)]
+        self.assertEqual(layers(calls), [1, 0, 0, 0])
+
+    def test_one_behind_another(self):
+        calls = [("start", 4), ("always", 0, 0), ("against", 1, 0), ("like", 2, 1), ("like", 3, 2)]
+        self.assertEqual(layers(calls), [4, 0, 1, 2, 3])
+        calls = [("start", 4), ("always", 3, 0), ("against", 2, 3), ("like", 1, 2), ("like", 0, 1)]
+        self.assertEqual(layers(calls), [4, 3, 2, 1, 0])
+
+    def test_behind_the_highest(self):
+        calls = [("start", 4), ("always", 0, 1), ("like", 1, 0), ("both", 2, 0, 1), ("either", 3, 0, 0)]
+        self.assertEqual(layers(calls), [3, 0, 1, 2, 1])
+        self.assertEqual(layers(calls + [("both", 3, 2, 0)]), [4, 0, 1, 2, 3])
+
+    def test_a_ring_anywhere(self):
+        calls = [("start", 4), ("always", 0, 1), ("like", 1, 0), ("like", 2, 1)]
+        self.assertEqual(layers(calls), [-33])
+        self.assertEqual(layers(calls + [("like", 3, 2)]), [4, 0, 1, 2, 3])
+        self.assertEqual(layers(calls + [("like", 3, 2), ("against", 1, 2)]), [-33])
+        self.assertEqual(layers(calls + [("like", 3, 2), ("either", 0, 0, 3)]), [-33])
+
+    def test_held_watches_none(self):
+        calls = [("start", 3), ("against", 0, 2), ("like", 1, 0), ("like", 2, 1)]
+        self.assertEqual(layers(calls), [-33])
+        for j, want in enumerate([[3, 0, 1, 2], [3, 2, 0, 1], [3, 1, 2, 0]]):
+            self.assertEqual(layers(calls + [("hold", j)]), want)
+            self.assertEqual(layers(calls + [("hold", j), ("free", j)]), [-33])
+        self.assertEqual(layers(calls + [("hold", 0), ("hold", 1), ("hold", 2)]), [1, 0, 0, 0])
+
+
 class AllOfTwoTowers(unittest.TestCase):
     def test_every_two_rules(self):
         for first in range(16):
@@ -114,5 +222,5 @@ class AllOfTwoTowers(unittest.TestCase):
                 model = Model()
                 for call in set_up([first, second]):
                     model.call(*call)
-                self.assertEqual(kinds(set_up([first, second])), model.call("kinds"))
-                self.assertEqual(even(set_up([first, second])), model.call("even"))
+                for ask_of in (kinds, even, odd, layers):
+                    self.assertEqual(ask_of(set_up([first, second])), model.call(ask_of.__name__))

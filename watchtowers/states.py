@@ -49,6 +49,20 @@ def says_up(rule, state):
     return (rule >> state) & 1 == 1
 
 
+def is_under(state, other):
+    return state & other == state
+
+
+def held_rules(rules, held, state):
+    """The rules with these towers held, as their flags are in this state."""
+    n = len(rules)
+    taken = list(rules)
+    for j in range(n):
+        if is_up(held, j):
+            taken[j] = always_rule(n, 1 if is_up(state, j) else 0)
+    return taken
+
+
 def would_change(rules, state, j):
     return says_up(rules[j], state) != is_up(state, j)
 
@@ -76,3 +90,7 @@ def behind_step(rules, state):
 
 def all_behind_step(rules):
     return [behind_step(rules, state) for state in range(state_count(len(rules)))]
+
+
+def states_at_rest(nexts):
+    return [state for state in range(len(nexts)) if nexts[state] == state]

@@ -1,6 +1,6 @@
 """The object on which the calls are made."""
 
-from watchtowers.states import always_rule, is_up, like_rule, up_count
+from watchtowers.states import held_rules, like_rule, up_count
 
 CHANGES_KEPT = 20
 
@@ -28,13 +28,7 @@ class Watch:
 
     def rules_now(self):
         # A held flag never moves by an act, so these hold through a whole call.
-        rules = []
-        for j in range(self.n):
-            if is_up(self.held, j):
-                rules.append(always_rule(self.n, 1 if is_up(self.state, j) else 0))
-            else:
-                rules.append(self.rules[j])
-        return rules
+        return held_rules(self.rules, self.held, self.state)
 
     def go_to(self, state):
         # A whole call counts at once: flags that are back as they were don't count.
@@ -45,8 +39,27 @@ class Watch:
         sums = (self.steps, self.passes, self.acts, self.turns)
         return (self.state, self.held, tuple(self.rules), tuple(self.order), sums)
 
+    def show(self, kept):
+        self.state = kept[0]
+        self.held = kept[1]
+        self.rules = list(kept[2])
+        self.order = list(kept[3])
+        # A change that is taken back never was: its steps and acts go with it.
+        self.steps = kept[4][0]
+        self.passes = kept[4][1]
+        self.acts = kept[4][2]
+        self.turns = kept[4][3]
+
     def keep_change(self, ahead):
         self.past.append(ahead)
         if len(self.past) > CHANGES_KEPT:
             self.past.pop(0)
         self.undone = []
+
+    def take_back(self):
+        self.undone.append(self.picture())
+        self.show(self.past.pop())
+
+    def do_again(self):
+        self.past.append(self.picture())
+        self.show(self.undone.pop())

@@ -1,4 +1,4 @@
-"""Who watches whom, and the rings (point 5)."""
+"""Who watches whom, the rings and the layers (point 5)."""
 
 from watchtowers.refusals import THERE_IS_NONE
 from watchtowers.states import is_up, says_up, state_count, with_up
@@ -69,9 +69,48 @@ def can_be_even(rows, ring):
     return LIFTED_AND_LOWERED in taken or taken.count(LOWERED) % 2 == 0
 
 
+def can_be_odd(rows, ring):
+    taken = ring_kinds(rows, ring)
+    return LIFTED_AND_LOWERED in taken or taken.count(LOWERED) % 2 == 1
+
+
+def even_rings(rows):
+    return [ring for ring in rings(rows) if can_be_even(rows, ring)]
+
+
+def odd_rings(rows):
+    return [ring for ring in rings(rows) if can_be_odd(rows, ring)]
+
+
+def first_ring(found):
+    if len(found) == 0:
+        return [THERE_IS_NONE]
+    return [len(found[0])] + found[0]
+
+
 def even(watch):
+    return first_ring(even_rings(kind_rows(watch.rules_now())))
+
+
+def odd(watch):
+    return first_ring(odd_rings(kind_rows(watch.rules_now())))
+
+
+def layer_of(row, known):
+    return max([0] + [known[i] + 1 for i in range(len(row)) if row[i] != NOT_WATCHED])
+
+
+def layers_of(rows):
+    # Without a ring a layer is right as soon as those below it are: n times will do.
+    known = [0 for row in rows]
+    for done in range(len(rows)):
+        known = [layer_of(row, known) for row in rows]
+    return known
+
+
+def layers(watch):
     rows = kind_rows(watch.rules_now())
-    for ring in rings(rows):
-        if can_be_even(rows, ring):
-            return [len(ring)] + ring
-    return [THERE_IS_NONE]
+    if len(rings(rows)) > 0:
+        return [THERE_IS_NONE]
+    known = layers_of(rows)
+    return [max(known) + 1] + known
